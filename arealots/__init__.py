@@ -1,0 +1,1 @@
+"""Arealots: all moves and areas that a few buttons make."""

@@ -1,0 +1,136 @@
+"""Walks: their moves, how many there are of a move, and the direct ones by their places."""
+
+from arealots.errors import InvalidIndex, InvalidNumber, InvalidWalk, NoWalk
+from arealots.integers import is_integer
+from arealots.limits import MOST_DIRECT, MOST_STEPS
+from arealots.moves import PLAIN, joined, need_move, undone
+
+STEPS = {"e": (1, 0, 0), "n": (0, 1, 0), "w": (-1, 0, 0), "s": (0, -1, 0)}
+LETTERS = "enws"
+DIRECT_LETTERS = "en"
+
+
+def walked(walk):
+    """The move of a walk."""
+    if not _has_letters(walk, LETTERS):
+        raise InvalidWalk(walk)
+    return _move_of(walk)
+
+
+def walks(steps, move):
+    """How many walks with so many steps are of the move."""
+    if not is_integer(steps) or not 0 <= steps <= MOST_STEPS:
+        raise InvalidNumber(steps)
+    need_move(move)
+    # A walk is counted by its two halves: all moves of sixteen steps are too many to go through at once.
+    half = steps // 2
+    ahead = _counts(half)
+    behind = _counts(steps - half)
+    return sum([many * behind.get(joined(undone(first), move), 0) for first, many in ahead.items()])
+
+
+def direct_walks(move):
+    """How many direct walks are of the move."""
+    need_move(move)
+    east, north, area = move
+    if east < 0 or north < 0:
+        return 0
+    if east + north > MOST_DIRECT:
+        raise InvalidNumber(east + north)
+    return _count(_direct_counts(east, north), move)
+
+
+def direct_walk(move, index):
+    """The direct walk with this index, of all that are of the move, in order as strings."""
+    many = direct_walks(move)
+    if many == 0:
+        raise NoWalk()
+    if not is_integer(index) or not 0 <= index < many:
+        raise InvalidIndex(index)
+    return _walk_at(move, index)
+
+
+def place_of(walk):
+    """The index of a direct walk among all that are of its move."""
+    if not _has_letters(walk, DIRECT_LETTERS) or len(walk) > MOST_DIRECT:
+        raise InvalidWalk(walk)
+    rest = _move_of(walk)
+    counts = _direct_counts(rest[0], rest[1])
+    place = 0
+    for letter in walk:
+        if letter == "n":
+            # All walks that go east here, to the same end, come earlier.
+            place += _count(counts, _rest_behind("e", rest))
+        rest = _rest_behind(letter, rest)
+    return place
+
+
+def _has_letters(value, letters):
+    return type(value) == str and all([sign in letters for sign in value])
+
+
+def _move_of(walk):
+    done = PLAIN
+    for letter in walk:
+        done = joined(done, STEPS[letter])
+    return done
+
+
+def _counts(steps):
+    """For each move that walks with so many steps are of, how many they are."""
+    counts = {PLAIN: 1}
+    for _ in range(steps):
+        longer = {}
+        for move, many in counts.items():
+            for letter in LETTERS:
+                end = joined(move, STEPS[letter])
+                longer[end] = longer.get(end, 0) + many
+        counts = longer
+    return counts
+
+
+def _direct_counts(east, north):
+    """For each x and y up to these, a list: how many direct walks have the areas 0, 1, up to x * y."""
+    counts = {}
+    for x in range(east + 1):
+        for y in range(north + 1):
+            if x == 0 or y == 0:
+                counts[x, y] = [1]
+            else:
+                # A first step east is lifted by all y steps north behind it, a first step north by nothing.
+                east_first = [0] * y + counts[x - 1, y]
+                north_first = counts[x, y - 1] + [0] * x
+                counts[x, y] = [one + other for one, other in zip(east_first, north_first)]
+    return counts
+
+
+def _count(counts, move):
+    x, y, area = move
+    if x < 0 or not 0 <= area <= x * y:
+        return 0
+    return counts[x, y][area]
+
+
+def _rest_behind(letter, move):
+    """What is left of the move of a direct walk behind its first step."""
+    x, y, area = move
+    if letter == "e":
+        return (x - 1, y, area - y)
+    return (x, y - 1, area)
+
+
+def _walk_at(move, index):
+    counts = _direct_counts(move[0], move[1])
+    letters = []
+    rest = move
+    while rest != PLAIN:
+        east_rest = _rest_behind("e", rest)
+        east_first = _count(counts, east_rest)
+        if index < east_first:
+            letters.append("e")
+            rest = east_rest
+        else:
+            letters.append("n")
+            index -= east_first
+            rest = _rest_behind("n", rest)
+    return "".join(letters)
