@@ -123,7 +123,7 @@ def _walk_at(move, index):
     counts = _direct_counts(move[0], move[1])
     letters = []
     rest = move
-    while rest != PLAIN:
+    for _ in range(move[0] + move[1]):
         east_rest = _rest_behind("e", rest)
         east_first = _count(counts, east_rest)
         if index < east_first:
