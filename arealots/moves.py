@@ -28,6 +28,20 @@ def joined(move, second):
     return (move[0] + second[0], move[1] + second[1], move[2] + second[2] + move[0] * second[1])
 
 
+def repeated(move, times):
+    """So many times a move, of what are known to be a move and an integer."""
+    east, north, area = move
+    return (times * east, times * north, times * area + times * (times - 1) // 2 * east * north)
+
+
+def move_of(text):
+    """The move with this text; None if the value is the text of none."""
+    if type(text) != str:
+        return None
+    move = tuple([read_integer(word) for word in text.split(" ")])
+    return move if is_move(move) else None
+
+
 def move_text(move):
     """The text of a move."""
     need_move(move)
@@ -36,10 +50,8 @@ def move_text(move):
 
 def read_move(text):
     """The move with this text."""
-    if type(text) != str:
-        raise InvalidText(text)
-    move = tuple([read_integer(word) for word in text.split(" ")])
-    if not is_move(move):
+    move = move_of(text)
+    if move is None:
         raise InvalidText(text)
     return move
 
@@ -62,7 +74,7 @@ def often(move, times):
     """So many times the move; below 0, as often the move undone."""
     need_move(move)
     need_integer(times)
-    return _repeated(move, times)
+    return repeated(move, times)
 
 
 def after(moves):
@@ -116,11 +128,6 @@ def root(move, times):
         raise InvalidNumber(times)
     east, north = move[0] // times, move[1] // times
     # The area that the steps of the root sweep by themselves is known; the rest has to be shared out.
-    left = move[2] - _repeated((east, north, 0), times)[2]
+    left = move[2] - repeated((east, north, 0), times)[2]
     found = (east, north, left // times)
-    return found if _repeated(found, times) == move else None
-
-
-def _repeated(move, times):
-    east, north, area = move
-    return (times * east, times * north, times * area + times * (times - 1) // 2 * east * north)
+    return found if repeated(found, times) == move else None

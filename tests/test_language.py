@@ -20,6 +20,7 @@ LIBRARY = {"heapq": {"heappush", "heappop", "heapify", "heapreplace", "heappushp
            "itertools": {"product", "combinations", "permutations", "chain", "accumulate", "pairwise", "islice",
                          "zip_longest"},
            "collections": {"defaultdict", "deque"}, "__future__": {"annotations"}}
+DOUBLE_UNDERSCORES = {"__init__", "__eq__", "__repr__", "__str__", "__len__", "__enter__", "__exit__", "__bool__"}
 STATEMENTS = (ast.Import, ast.ImportFrom, ast.FunctionDef, ast.ClassDef, ast.Assign)
 NOT_ALLOWED = (ast.AsyncFunctionDef, ast.AsyncFor, ast.AsyncWith, ast.Await, ast.Div, ast.Import, ast.MatMult)
 
@@ -105,6 +106,32 @@ class LanguageTest(unittest.TestCase):
             told = {ast.unparse(decorator).partition(".")[2] or ast.unparse(decorator)
                     for decorator in node.decorator_list}
             self.assertLessEqual(told, {"property", "setter", "staticmethod", "classmethod"}, name)
+
+    def test_classes(self):
+        for name, node in self.nodes(ast.ClassDef):
+            self.assertEqual(node.decorator_list, [], name)
+            self.assertLessEqual({type(part) for part in node.body}, {ast.Expr, ast.FunctionDef}, name)
+            methods = [part for part in node.body if isinstance(part, ast.FunctionDef)]
+            self.assertEqual(len(methods), len({method.name for method in methods}), name)
+            told = {method.name: method for method in methods if method.name.startswith("__")}
+            self.assertLessEqual(set(told), DOUBLE_UNDERSCORES, name)
+            if "__eq__" in told:
+                self.assertRegex(ast.unparse(told["__eq__"].body[0]), f"^return type.other. is {node.name} and ")
+            if "__len__" in told:
+                self.assertRegex(ast.unparse(told["__len__"].body[-1]), "^return len")
+            if "__exit__" in told:
+                self.none((name, part.lineno) for part in ast.walk(told["__exit__"])
+                          if isinstance(part, (ast.Call, ast.Subscript, ast.BinOp, ast.Compare, ast.Return)))
+
+    def test_all_and_any_take_lists(self):
+        self.none((name, node.lineno) for name, node in self.nodes(ast.GeneratorExp, ast.Yield, ast.YieldFrom))
+
+    def test_is_only_where_it_is_plain(self):
+        for name, node in self.nodes(ast.Compare):
+            for sign, side in zip(node.ops, node.comparators):
+                if isinstance(sign, (ast.Is, ast.IsNot)):
+                    plain = isinstance(side, ast.Constant) and side.value in (None, True, False)
+                    self.assertTrue(plain or ast.unparse(node.left) in ("self", "type(other)", "type(value)"), name)
 
 
 if __name__ == "__main__":
