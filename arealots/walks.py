@@ -3,11 +3,16 @@
 from arealots.errors import InvalidIndex, InvalidNumber, InvalidWalk, NoWalk
 from arealots.integers import is_integer
 from arealots.limits import MOST_DIRECT, MOST_STEPS
-from arealots.moves import PLAIN, joined, need_move, undone
+from arealots.moves import PLAIN, joined, need_move
 
 STEPS = {"e": (1, 0, 0), "n": (0, 1, 0), "w": (-1, 0, 0), "s": (0, -1, 0)}
 LETTERS = "enws"
 DIRECT_LETTERS = "en"
+
+# All walks of sixteen steps are 2 ** 32; those of eight have no areas but from -16 to 16.
+FIGURE_BITS = 40
+HIGHEST_FIGURE = 2 ** 40 - 1
+NO_AREA_PLACE = 16
 
 
 def walked(walk):
@@ -22,11 +27,15 @@ def walks(steps, move):
     if not is_integer(steps) or not 0 <= steps <= MOST_STEPS:
         raise InvalidNumber(steps)
     need_move(move)
+    if not _within_reach(steps, move):
+        return 0
     # A walk is counted by its two halves: all moves of sixteen steps are too many to go through at once.
     half = steps // 2
-    ahead = _counts(half)
-    behind = _counts(steps - half)
-    return sum([many * behind.get(joined(undone(first), move), 0) for first, many in ahead.items()])
+    ahead = {(0, 0): 1 << FIGURE_BITS * NO_AREA_PLACE}
+    for _ in range(half):
+        ahead = _one_step_more(ahead)
+    behind = ahead if 2 * half == steps else _one_step_more(ahead)
+    return _count_of_both(ahead, behind, move)
 
 
 def direct_walks(move):
@@ -76,17 +85,45 @@ def _move_of(walk):
     return done
 
 
-def _counts(steps):
-    """For each move that walks with so many steps are of, how many they are."""
-    counts = {PLAIN: 1}
-    for _ in range(steps):
-        longer = {}
-        for move, many in counts.items():
-            for letter in LETTERS:
-                end = joined(move, STEPS[letter])
-                longer[end] = longer.get(end, 0) + many
-        counts = longer
-    return counts
+def _within_reach(steps, move):
+    """False for most moves that no walk with so many steps is of: these need no counting."""
+    east, north, area = move
+    spare = steps - abs(east) - abs(north)
+    # With h steps east and west a walk is never further than h from its start: each other step sweeps h at most.
+    return spare >= 0 and spare % 2 == 0 and 4 * abs(area) <= steps * steps
+
+
+def _one_step_more(counts):
+    """The counts of the walks that have one step more.
+
+    Counts have, for each place (x, y), an integer that tells for all areas at once how many walks end there: each
+    figure of FIGURE_BITS bits is the count of an area, NO_AREA_PLACE the place of the figure for the area 0.
+    """
+    longer = {}
+    for (x, y), figures in counts.items():
+        ends = (((x + 1, y), figures), ((x - 1, y), figures),
+                ((x, y + 1), _lifted(figures, x)), ((x, y - 1), _lifted(figures, -x)))
+        for end, more in ends:
+            longer[end] = longer.get(end, 0) + more
+    return longer
+
+
+def _lifted(figures, area):
+    """The figures, with so much more area for each walk."""
+    return figures << FIGURE_BITS * area if area >= 0 else figures >> FIGURE_BITS * -area
+
+
+def _count_of_both(ahead, behind, move):
+    """How many walks of the one counts, each with one of the other counts behind it, are of the move."""
+    east, north, area = move
+    many = 0
+    for (x, y), figures in ahead.items():
+        others = behind.get((east - x, north - y), 0)
+        # Figures of a product are counts of sums of areas; what goes north behind is lifted by what is ahead.
+        place = 2 * NO_AREA_PLACE + area - x * (north - y)
+        if others != 0 and place >= 0:
+            many += (figures * others >> FIGURE_BITS * place) & HIGHEST_FIGURE
+    return many
 
 
 def _direct_counts(east, north):

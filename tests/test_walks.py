@@ -32,6 +32,19 @@ def sorted_by_move(letters, steps):
     return found
 
 
+def counts_of_moves(steps):
+    """For each move that walks of so many steps are of, how many these are."""
+    found = {(0, 0, 0): 1}
+    for _ in range(steps):
+        longer = {}
+        for (x, y, area), many in found.items():
+            for u, v in ((1, 0), (0, 1), (-1, 0), (0, -1)):
+                end = (x + u, y + v, area + x * v)
+                longer[end] = longer.get(end, 0) + many
+        found = longer
+    return found
+
+
 class ExamplesTest(Case):
     def test_examples(self):
         self.follows("""
@@ -76,21 +89,14 @@ class WalkedTest(Case):
 
 class WalksTest(Case):
     def test_against_all_strings(self):
-        for steps in range(7):
+        for steps in range(9):
             found = sorted_by_move("enws", steps)
             for x, y in itertools.product(range(-steps - 1, steps + 2), repeat=2):
                 for area in range(-steps * steps // 4 - 2, steps * steps // 4 + 3):
                     self.assertEqual(walks(steps, (x, y, area)), len(found.get((x, y, area), ())))
 
     def test_all_moves_of_nine_steps(self):
-        found = {(0, 0, 0): 1}
-        for _ in range(9):
-            longer = {}
-            for (x, y, area), many in found.items():
-                for u, v in ((1, 0), (0, 1), (-1, 0), (0, -1)):
-                    end = (x + u, y + v, area + x * v)
-                    longer[end] = longer.get(end, 0) + many
-            found = longer
+        found = counts_of_moves(9)
         self.assertEqual(sum(found.values()), 4 ** 9)
         for move, many in found.items():
             self.assertEqual(walks(9, move), many)
@@ -111,6 +117,34 @@ class WalksTest(Case):
         self.assertEqual(walks(16, (0, 0, 16)), 16)
         self.assertEqual(walks(16, (0, 0, -16)), 16)
         self.assertEqual(walks(16, (1, 0, 0)), 0)
+
+    def test_all_moves_of_sixteen_steps(self):
+        found = counts_of_moves(16)
+        self.assertEqual(sum(found.values()), 4 ** 16)
+        for index, ((x, y, area), many) in enumerate(found.items()):
+            if index % 10 == 0 or abs(area) > 60 or many == 1:
+                self.assertEqual(walks(16, (x, y, area)), many)
+            if index % 40 == 0:
+                for move in ((x + 1, y, area), (x, y - 1, area), (x + 1, y + 1, area), (x, y, area + 7), (y, x, area)):
+                    self.assertEqual(walks(16, move), found.get(move, 0))
+
+    def test_moves_of_all_lengths(self):
+        for steps in range(10, 16):
+            found = counts_of_moves(steps)
+            for move in list(found)[::97]:
+                self.assertEqual(walks(steps, move), found[move])
+                self.assertEqual(walks(steps - 1, move), 0)
+                self.assertEqual(walks(steps, (move[0], move[1], move[2] + steps)),
+                                 found.get((move[0], move[1], move[2] + steps), 0))
+
+    def test_asked_again_and_in_another_order(self):
+        asked = [(steps, (x, y, area)) for steps in (0, 1, 5, 8, 9) for x in range(-2, 3) for y in (-1, 0, 2)
+                 for area in range(-3, 4)]
+        told = [walks(steps, move) for steps, move in asked]
+        self.assertEqual([walks(steps, move) for steps, move in asked], told)
+        self.assertEqual([walks(steps, move) for steps, move in asked[::-1]], told[::-1])
+        self.assertEqual([walks(move=move, steps=steps) for steps, move in asked[::2] + asked[1::2]],
+                         told[::2] + told[1::2])
 
     def test_places_out_of_reach(self):
         for move in ((BIG, 0, 0), (0, -BIG, 0), (0, 0, BIG), (BIG, BIG, BIG), (17, 0, 0), (0, 0, 17)):
