@@ -3,7 +3,7 @@
 A basis is a form that has the plain move where the form has nothing.
 """
 
-from math import gcd
+from math import gcd, lcm
 
 from arealots.errors import InvalidPlan
 from arealots.integers import combination, is_integer, net
@@ -224,7 +224,8 @@ def _common_basis(first, second):
     others = [joined(repeated(other_east, counts[2]), repeated(other_north, counts[3])) for counts in relations]
     differences = [(one[2] - two[2],) for one, two in zip(firsts, others)]
     # Done alike, both differ by the sum of the differences: it has to be made up for by multiples of the steps.
-    made = []
+    # Not all pure moves that both make need to come of the others that both make: all of these are put in.
+    made = [(0, 0, lcm(step, other_step))]
     for counts in net(differences + [(step,), (other_step,)], 1)[1]:
         made.append(_move_of_plan(firsts + [(0, 0, step)], _times_each(list(range(len(counts) - 1)), counts)))
     return basis_of(made)

@@ -1,6 +1,7 @@
 """What two lots have in common, classes, and moved lots, against own reckonings."""
 
 import itertools
+import random
 import unittest
 
 from arealots.forms import classes, common, form, makes, moved, same, within
@@ -163,6 +164,69 @@ class ThinLotsTest(Case):
                            (Lot(((BIG, 7, 0), (0, 7 ** 35, 0), (0, 0, 7 ** 34))), Lot(((BIG, 7, 5), (0, 7 ** 35, 0),
                                                                                       (0, 0, 7 ** 34))))):
             self.assertEqual(form_moved(form(lot), moved(lot, other)), form(other))
+
+
+def exchanged(lot):
+    """The lot with east and north exchanged: what it makes is what the lot makes, exchanged likewise."""
+    return Lot(tuple((y, x, x * y - area) for x, y, area in lot.buttons))
+
+
+def drawn_pairs(many, most):
+    """So many pairs of lots of at most so many small buttons, the same ones in each run."""
+    drawn = random.Random(9)
+    for _ in range(many):
+        yield [Lot(tuple((drawn.randint(-6, 6), drawn.randint(-6, 6), drawn.randint(-9, 9))
+                         for _ in range(drawn.randint(1, most)))) for _ in range(2)]
+
+
+def least_pure_area(lot, other):
+    """The least area above 0 of a pure move that both make, gone through one by one; 0 if there is none."""
+    for area in range(1, form(lot)[2] * form(other)[2] + 1):
+        if makes(lot, (0, 0, area)) and makes(other, (0, 0, area)):
+            return area
+    return 0
+
+
+class PureMovesTest(Case):
+    def test_pure_moves_that_come_of_no_others(self):
+        first, other = Lot(((-1, 2, -2), (-2, 0, 0))), Lot(((-1, -2, 5), (5, -6, -32)))
+        self.assertTrue(makes(first, (0, 0, 16)) and makes(other, (0, 0, 16)))
+        for one, two in ((first, other), (other, first)):
+            self.assertEqual(common(one, two), ((1, 18, 2), (0, 64, 4), 16))
+        self.assertEqual((classes(first, other), classes(other, first)), (4, 64))
+        first, other = exchanged(first), exchanged(other)
+        for one, two in ((first, other), (other, first)):
+            self.assertEqual(common(one, two), ((2, 25, 4), (0, 32, 4), 16))
+        self.assertEqual((classes(first, other), classes(other, first)), (4, 64))
+
+    def test_drawn_lots(self):
+        for lot, other in list(drawn_pairs(1500, 2)) + list(drawn_pairs(500, 4)):
+            found = common(lot, other)
+            self.assertEqual(found[2], least_pure_area(lot, other))
+            self.assertEqual(common(other, lot), found)
+            self.assertEqual(common(exchanged(lot), exchanged(other))[2], found[2])
+            self.assertEqual(classes(exchanged(lot), exchanged(other)), classes(lot, other))
+            self.assertEqual(classes(exchanged(other), exchanged(lot)), classes(other, lot))
+            if any(found):
+                part = lot_of(found)
+                self.assertEqual(form(part), found)
+                self.assertTrue(within(part, lot) and within(part, other))
+
+    def test_small_lots_of_two_buttons(self):
+        buttons = list(itertools.product((-1, 2, 5), (-2, 0, 3), (-2, 1)))
+        lots = [Lot(chosen) for chosen in itertools.combinations(buttons, 2)]
+        for lot, other in list(itertools.product(lots, lots))[::61]:
+            found = common(lot, other)
+            self.assertEqual(found[2], least_pure_area(lot, other))
+            self.assertEqual(common(exchanged(lot), exchanged(other))[2], found[2])
+            self.assertEqual(classes(exchanged(lot), exchanged(other)), classes(lot, other))
+
+    def test_steps_of_many_figures(self):
+        one, two = Lot(((BIG, 0, 0), (0, BIG, 0), (0, 0, 6))), Lot(((1, 1, 0), (0, BIG - 1, 0), (0, 0, BIG - 1)))
+        self.assertEqual(common(one, two)[2], 2 * (BIG - 1))
+        three, four = Lot(((0, 0, BIG),)), Lot(((1, 2, 3), (0, 0, BIG - 1)))
+        self.assertEqual((common(three, four), classes(three, four)), (((), (), BIG * (BIG - 1)), None))
+        self.assertEqual(classes(four, three), BIG - 1)
 
 
 class ManyFiguresTest(Case):
