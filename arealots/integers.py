@@ -37,6 +37,14 @@ def read_integer(text):
     return number if integer_text(number) == text else None
 
 
+def times_of(number, divisor):
+    """How many times the divisor the number is; None if it is no multiple of it."""
+    if divisor == 0:
+        return 0 if number == 0 else None
+    times, rest = divmod(number, divisor)
+    return times if rest == 0 else None
+
+
 def divisor_with_factors(first, second):
     """The greatest common divisor d of both, from 0 on, and p and q with d = p * first + q * second."""
     divisor, p, q = first, 1, 0

@@ -1,9 +1,13 @@
-"""Lots: one to five buttons, with their text and what changes of its lines come to."""
+"""Lots: one to five buttons, with their text, what changes of its lines come to, and a basis of all that they make.
+
+A basis is a triple (east, north, step) of which all comes that is made, as it does of a form. But it has the plain
+move where a form has nothing, and its numbers need not be in the bounds of a form: so one lot has many bases.
+"""
 
 from arealots.errors import InvalidButtons, InvalidChanges, InvalidText, NotLot
-from arealots.integers import is_integer
+from arealots.integers import is_integer, net, times_of
 from arealots.limits import MOST_BUTTONS, MOST_NUMBER
-from arealots.moves import is_move, move_of, move_text
+from arealots.moves import PLAIN, is_move, joined, move_of, move_text, repeated
 
 BUTTON = "button "
 
@@ -19,6 +23,9 @@ class Lot:
                 raise InvalidButtons(index)
         self._buttons = buttons
         self._text = "\n".join([BUTTON + move_text(button) for button in buttons])
+        # Most questions at a lot rest on these. They are worked out here, so that no question changes the lot.
+        self._plans = basic_plans(buttons)
+        self._basis = _basis_by(buttons, self._plans)
 
     @classmethod
     def read(cls, text):
@@ -37,6 +44,16 @@ class Lot:
     def text(self):
         """A line for each button."""
         return self._text
+
+    @property
+    def plans(self):
+        """The basic plans of the buttons."""
+        return self._plans
+
+    @property
+    def basis(self):
+        """The basis that the basic plans come to."""
+        return self._basis
 
     def changed(self, changes):
         """The lot with these changes of its lines, all made at once."""
@@ -97,6 +114,65 @@ def changed_text(lot, changes):
     for index, new in changes:
         lines[index] = new
     return "\n".join([line for line in lines if line != ""])
+
+
+def basic_plans(moves):
+    """Plans of an east, a north and a pure move: of these comes all that the moves make. Empty ones are plain."""
+    (east, north), relations = net([move[:2] for move in moves], 2)
+    indexes = list(range(len(moves)))
+    east_plan = () if east is None else times_each(indexes, east[2:])
+    north_plan = () if north is None else times_each(indexes, north[2:])
+    pure_plans = [times_each(indexes, counts) for counts in relations]
+    if east_plan != () and north_plan != ():
+        # All gaps of moves that are made are multiples of the gap of these two.
+        pure_plans.append(((east_plan, 1), (north_plan, 1), (east_plan, -1), (north_plan, -1)))
+    (least,), _ = net([move_of_plan(moves, pure)[2:] for pure in pure_plans], 1)
+    step_plan = () if least is None else times_each(pure_plans, least[1:])
+    return east_plan, north_plan, step_plan
+
+
+def basis_of(moves):
+    """A basis of all that the moves make."""
+    return _basis_by(moves, basic_plans(moves))
+
+
+def counts_in(basis, move):
+    """How often the east, the north and the step come to the move, one behind another; None if they never do."""
+    east, north, step = basis
+    easts = times_of(move[0], east[0])
+    if easts is None:
+        return None
+    reached = repeated(east, easts)
+    norths = times_of(move[1] - reached[1], north[1])
+    if norths is None:
+        return None
+    reached = joined(reached, repeated(north, norths))
+    steps = times_of(move[2] - reached[2], step)
+    return None if steps is None else (easts, norths, steps)
+
+
+def in_basis(basis, move):
+    """Whether what has this basis makes the move."""
+    return counts_in(basis, move) is not None
+
+
+def times_each(parts, counts):
+    """The plan that does each part so many times."""
+    return tuple([(part, count) for part, count in zip(parts, counts) if count != 0])
+
+
+def move_of_plan(moves, plan):
+    """The move of what is known to be a plan for a lot with these moves."""
+    done = PLAIN
+    for part, times in plan:
+        move = moves[part] if is_integer(part) else move_of_plan(moves, part)
+        done = joined(done, repeated(move, times))
+    return done
+
+
+def _basis_by(moves, plans):
+    east, north, pure = [move_of_plan(moves, plan) for plan in plans]
+    return east, north, pure[2]
 
 
 def _is_button(value):

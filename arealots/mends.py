@@ -1,10 +1,10 @@
 """Mends: wishes that a lot keeps or not, and the least sets of changes with which it keeps them."""
 
 from arealots.errors import InvalidChanges, InvalidWish, InvalidWishes
-from arealots.forms import basis_of, cosets_of, in_basis
+from arealots.forms import cosets_of
 from arealots.integers import is_integer
 from arealots.limits import MOST_CHANGES
-from arealots.lots import buttons_of, changed_text, is_change, need_lot
+from arealots.lots import basis_of, buttons_of, changed_text, in_basis, is_change, need_lot
 from arealots.moves import move_of
 
 MOVE_WISHES = ("makes", "misses")
@@ -16,7 +16,7 @@ def holds(lot, wish):
     need_lot(lot)
     if not is_wish(wish):
         raise InvalidWish(wish)
-    return _holds_for(basis_of(lot.buttons), wish)
+    return _holds_for(lot.basis, wish)
 
 
 def mends(lot, wishes, changes):

@@ -427,6 +427,42 @@ class WrongValuesTest(Case):
                 self.assertEqual(call(DOUBLE, lot), call(DOUBLE, again))
 
 
+class AskedBeforeTest(Case):
+    """Lots keep what most questions rest on: they answer as new ones do, whatever they were asked before."""
+
+    def answers(self, lot, other, backwards):
+        moves = BOX[::40]
+        asked = [lambda: (form(lot), cosets(lot), steady(lot), needless(lot)),
+                 lambda: (common(lot, other), classes(lot, other), moved(lot, other)),
+                 lambda: (same(lot, other), within(lot, other), within(other, lot)),
+                 lambda: [makes(lot, move) for move in moves], lambda: [plan(lot, move) for move in moves],
+                 lambda: doing(lot, ((0, 2), (((0, 1),), -3))), lambda: (lot.buttons, lot.text, repr(lot), len(lot))]
+        if backwards:
+            return [ask() for ask in asked[::-1]][::-1]
+        return [ask() for ask in asked]
+
+    def test_lots_that_were_asked_before(self):
+        lots = THIN + tuple(Lot(MANY_FIGURES[:many]) for many in (2, 3, 5))
+        for lot, other in itertools.product(lots, (DOUBLE, LINE, lots[-1])):
+            before = dict(vars(lot)), dict(vars(other))
+            found = self.answers(lot, other, False)
+            self.assertEqual((vars(lot), vars(other)), before)
+            for _ in range(2):
+                self.assertEqual(self.answers(lot, other, True), found)
+            self.assertEqual(self.answers(Lot.read(lot.text), Lot(other.buttons), True), found)
+            self.assertEqual(self.answers(lot.changed(()), other, False), found)
+
+    def test_long_series(self):
+        for buttons in (((2, 0, 0), (0, 3, 1), (4, 6, 2), (0, 0, 12), (6, 3, 5)), MANY_FIGURES):
+            lot = Lot(buttons)
+            told = form(lot)
+            for number in range(1000):
+                move = (6 * number, 4 * number, 3)
+                self.assertIs(makes(lot, move), in_form(told, move))
+                self.assertIs(makes(Lot(buttons[:1]), many_times(buttons[0], number)), True)
+            self.assertEqual(form(lot), form(Lot(buttons[::-1])))
+
+
 class GapTest(Case):
     def test_the_step_of_two_buttons_divides_their_gap(self):
         for one, two in itertools.product(SMALL, SMALL):

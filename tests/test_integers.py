@@ -2,7 +2,7 @@ import itertools
 import unittest
 from math import gcd
 
-from arealots.integers import combination, divisor_with_factors, integer_text, is_integer, net, read_integer
+from arealots.integers import combination, divisor_with_factors, integer_text, is_integer, net, read_integer, times_of
 from tests.helper import NO_INTEGERS
 
 FORTY = 1234567890123456789012345678901234567890
@@ -32,6 +32,14 @@ class IntegersTest(unittest.TestCase):
             divisor, p, q = divisor_with_factors(first, second)
             self.assertEqual(divisor, gcd(first, second))
             self.assertEqual(p * first + q * second, divisor)
+
+    def test_times(self):
+        for divisor in range(-7, 8):
+            for times in range(-9, 10):
+                self.assertEqual(times_of(times * divisor, divisor), times if divisor else 0)
+                for more in range(1, abs(divisor) or 2):
+                    self.assertIsNone(times_of(times * divisor + more, divisor))
+        self.assertEqual((times_of(FORTY * 10 ** 30, FORTY), times_of(FORTY + 1, 0)), (10 ** 30, None))
 
 
 def summed(vectors, factors, width):
