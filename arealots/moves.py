@@ -34,6 +34,11 @@ def repeated(move, times):
     return (times * east, times * north, times * area + times * (times - 1) // 2 * east * north)
 
 
+def moved_by(move, second):
+    """The one move, then the second one, then the one undone, of two that are known to be moves."""
+    return joined(joined(move, second), undone(move))
+
+
 def move_of(text):
     """The move with this text; None if the value is the text of none."""
     if type(text) != str:

@@ -61,6 +61,20 @@ NO_INTEGERS = NOTHING + ("", "1", "0", (), (1,), (1, 2, 3), [0])
 NO_LOTS = NOTHING + (0, 1, "", "button 1 0 0", (), (1, 0, 0), ((1, 0, 0),), ((1, 0, 0), (0, 1, 0)), Equal())
 
 
+class Stop(Exception):
+    """Raised in blocks of trials by the tests alone."""
+
+
+def is_nested(signs):
+    """Whether there are trials, which begin with ( and end with ) or, by an exception, with !, in right order."""
+    depth = 0
+    for sign in signs:
+        depth += {"(": 1, ")": -1, "!": -1}.get(sign, 0)
+        if depth < 0:
+            return False
+    return depth == 0 and "(" in signs
+
+
 def swept(move, second):
     """One move then the other, as the document tells it."""
     return (move[0] + second[0], move[1] + second[1], move[2] + second[2] + move[0] * second[1])
@@ -176,16 +190,23 @@ class Case(unittest.TestCase):
             if found[name] is not value:
                 self.assertEqual((type(found[name]), found[name]), (type(value), value))
 
+    def shown(self, line, names):
+        """What Python shows behind a line: nothing for a statement, and for None."""
+        try:
+            code = compile(line, "line", "eval")
+        except SyntaxError:
+            exec(line, names)
+            return ""
+        value = eval(code, names)
+        return "" if value is None else repr(value)
+
     def follows(self, text):
         """Runs the lines behind >>> and compares what they give with the lines below them."""
         names = {}
         for part in text.strip().split(">>> ")[1:]:
             line, _, told = part.strip().partition("\n")
             try:
-                found = repr(eval(line, names))
-            except SyntaxError:
-                exec(line, names)
-                found = ""
+                found = self.shown(line, names)
             except Exception as e:
                 attributes = ", ".join(f"{name}={value!r}" for name, value in vars(e).items())
                 found = f"raises {type(e).__name__}({attributes})"

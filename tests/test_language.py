@@ -20,7 +20,8 @@ LIBRARY = {"heapq": {"heappush", "heappop", "heapify", "heapreplace", "heappushp
            "itertools": {"product", "combinations", "permutations", "chain", "accumulate", "pairwise", "islice",
                          "zip_longest"},
            "collections": {"defaultdict", "deque"}, "__future__": {"annotations"}}
-DOUBLE_UNDERSCORES = {"__init__", "__eq__", "__repr__", "__str__", "__len__", "__enter__", "__exit__", "__bool__"}
+DOUBLE_UNDERSCORES = {"__init__", "__eq__", "__repr__", "__str__", "__len__", "__enter__", "__exit__", "__bool__",
+                      "__getitem__", "__setitem__", "__contains__", "__iter__"}
 STATEMENTS = (ast.Import, ast.ImportFrom, ast.FunctionDef, ast.ClassDef, ast.Assign)
 NOT_ALLOWED = (ast.AsyncFunctionDef, ast.AsyncFor, ast.AsyncWith, ast.Await, ast.Div, ast.Import, ast.MatMult)
 
@@ -121,7 +122,10 @@ class LanguageTest(unittest.TestCase):
                 self.assertRegex(ast.unparse(told["__len__"].body[-1]), "^return len")
             if "__exit__" in told:
                 self.none((name, part.lineno) for part in ast.walk(told["__exit__"])
-                          if isinstance(part, (ast.Call, ast.Subscript, ast.BinOp, ast.Compare, ast.Return)))
+                          if isinstance(part, (ast.Call, ast.Subscript, ast.BinOp, ast.Compare, ast.Return))
+                          and ast.unparse(part) not in ("kind is None", "kind is not None"))
+            if "__getitem__" in told:
+                self.assertRegex(ast.unparse(told["__iter__"].body), "^raise TypeError")
 
     def test_all_and_any_take_lists(self):
         self.none((name, node.lineno) for name, node in self.nodes(ast.GeneratorExp, ast.Yield, ast.YieldFrom))
@@ -132,6 +136,15 @@ class LanguageTest(unittest.TestCase):
                 if isinstance(sign, (ast.Is, ast.IsNot)):
                     plain = isinstance(side, ast.Constant) and side.value in (None, True, False)
                     self.assertTrue(plain or ast.unparse(node.left) in ("self", "type(other)", "type(value)"), name)
+
+    def test_words_that_stand_nowhere_beside_items(self):
+        for name, text in self.texts.items():
+            self.none((name, word) for word in ("(type)", "Meta", "metaclass=") if word in text)
+
+    def test_handlers_name_own_errors(self):
+        errors = {part.name for part in self.trees["errors.py"].body if isinstance(part, ast.ClassDef)}
+        for name, node in self.nodes(ast.ExceptHandler):
+            self.assertIn(ast.unparse(node.type), errors, name)
 
 
 if __name__ == "__main__":

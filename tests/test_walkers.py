@@ -5,16 +5,12 @@ import unittest
 from arealots.errors import InvalidMove, InvalidPlan, NotLot, NothingToUndo
 from arealots.lots import Lot
 from arealots.walkers import Walker
-from tests.helper import NO_LOTS, NO_MOVES, NOTHING, Case, Equal, swept
+from tests.helper import NO_LOTS, NO_MOVES, NOTHING, Case, Equal, Stop, is_nested, swept
 
 BIG = 10 ** 30
 STEPS = Lot(((1, 0, 0), (0, 1, 0)))
 METHODS = {"go": ["self", "move"], "press": ["self", "lot", "plan"], "undo": ["self"], "trial": ["self"],
            "tried": ["self", "action"]}
-
-
-class Stop(Exception):
-    """Raised in blocks of trials by these tests alone."""
 
 
 def end_of(gone):
@@ -128,21 +124,13 @@ class TrialTest(WalkerCase):
     def test_all_short_trials(self):
         # "(" begins a trial, ")" ends it, "!" ends it by an exception; by one object for all of them, or by many.
         for signs in itertools.product("gu()!", repeat=6):
-            if self.is_nested(signs):
+            if is_nested(signs):
                 for shared in (False, True):
                     walker, gone = Walker(), [(1, 2, 3)]
                     walker.go((1, 2, 3))
                     trial = walker.trial()
                     self.run_signs(list(signs), walker, gone, (lambda: trial) if shared else walker.trial)
                     self.stands(walker, gone)
-
-    def is_nested(self, signs):
-        depth = 0
-        for sign in signs:
-            depth += {"(": 1, ")": -1, "!": -1}.get(sign, 0)
-            if depth < 0:
-                return False
-        return depth == 0 and "(" in signs
 
     def run_signs(self, signs, walker, gone, trial):
         """Does what the signs tell, up to the end of a block, and keeps the list of moves at it."""
